@@ -1,0 +1,1 @@
+"""Boxballs: balls carried along a row of boxes."""

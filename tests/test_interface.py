@@ -1,0 +1,35 @@
+"""The interface: what must exist, under its name, with its arguments in their places."""
+
+import importlib
+import inspect
+import unittest
+
+FUNCTIONS = {
+    "rows": {
+        "is_row": ["thing"], "carried": ["row"], "undone": ["row"], "loads": ["row"], "later": ["row", "steps"],
+    },
+    "carriers": {
+        "carried_by": ["row", "size"], "undone_by": ["row", "size"], "taken_by": ["row", "size"], "takings": ["row"],
+    },
+}
+ERRORS = ["BallError", "NoNumber", "NotFree", "TooLong", "NoRow", "BadNote"]
+
+
+class Interface(unittest.TestCase):
+
+    def test_functions(self):
+        for module_name, functions in FUNCTIONS.items():
+            module = importlib.import_module(f"boxballs.{module_name}")
+            for name, arguments in functions.items():
+                function = getattr(module, name)
+                self.assertEqual(function.__module__, module.__name__)
+                self.assertEqual(list(inspect.signature(function).parameters), arguments)
+
+    def test_errors(self):
+        module = importlib.import_module("boxballs.errors")
+        for name in ERRORS:
+            self.assertEqual(getattr(module, name).__module__, "boxballs.errors")
+
+
+if __name__ == "__main__":
+    unittest.main()
