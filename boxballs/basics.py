@@ -1,4 +1,4 @@
-"""What several modules need: the check of numbers, and the carrier's way."""
+"""What several modules need: checks of numbers, the carrier's way, blocks, taking out, ways to lay balls."""
 
 from boxballs.errors import NoNumber
 
@@ -53,3 +53,30 @@ def carry_back(row, size):
     # Box by box a carrier from the right does the reverse of what one from the left did.
     ahead, taken = carry(mirrored(row), size)
     return mirrored(ahead)
+
+
+def blocks_in(row):
+    """The blocks of balls beside one another, from the left: a list of tuples (first place, length)."""
+    firsts = [place for place in row if place - 1 not in row]
+    lasts = [place for place in row if place + 1 not in row]
+    return [(first, last - first + 1) for first, last in zip(firsts, lasts)]
+
+
+def closed_up(places, out):
+    """The places that are left, each less by how many places that are taken out are less than it."""
+    left = [place for place in places if place not in out]
+    return tuple([place - len([gone for gone in out if gone < place]) for place in left])
+
+
+def lengths_from(counts):
+    """The lengths, told by how many balls are taken out each time."""
+    first = counts[0] if counts else 0
+    return tuple([len([many for many in counts if many >= ball]) for ball in range(1, first + 1)])
+
+
+def ways(boxes, balls):
+    """All ways to lay so many balls into boxes numbered from 0: a rising list of rising tuples."""
+    laid = [()]
+    for turn in range(balls):
+        laid = [way + (place,) for way in laid for place in range(way[-1] + 1 if way else 0, boxes)]
+    return laid

@@ -1,4 +1,4 @@
-"""What the tests share: a plain model of the carrier, rows to try, and things of all kinds."""
+"""What the tests share: plain models of what the document tells, rows to try, and things of all kinds."""
 
 import contextlib
 import itertools
@@ -72,6 +72,90 @@ def box_by_box(row, size):
     return tuple(behind), taken, loads
 
 
+def signs_of(row):
+    """A near row's boxes from its first ball on, as signs, with empty ones enough behind the last ball."""
+    boxes = range(row[0], row[-1] + len(row) + 2) if row else ()
+    return "".join("o" if box in row else "." for box in boxes)
+
+
+def counts_by_signs(row):
+    """How many balls of a near row are taken out each time, all at once, the boxes being closed up."""
+    signs, counts = signs_of(row), []
+    while "o" in signs:
+        counts.append(signs.count("o."))
+        signs = signs.replace("o.", "")
+    return counts
+
+
+def counts_by_gaps(row):
+    """How many balls of any row are taken out each time; told by how many empty boxes are behind each ball."""
+    gaps = [place - ball - 1 for ball, place in zip(row, row[1:])] + [END] * len(row[:1])
+    counts = []
+    while gaps:
+        counts.append(sum(1 for gap in gaps if gap))
+        left = []
+        for gap in gaps:
+            if not gap:
+                left.append(0)
+            elif left:
+                left[-1] += gap - 1
+        gaps = left
+    return counts
+
+
+def lengths_by_counts(counts):
+    """For each ball taken out the first time, how many times at least so many are taken out."""
+    return tuple(sum(1 for count in counts if count >= ball) for ball in range(1, (counts or [0])[0] + 1))
+
+
+def stretched(row, least, more=170000000):
+    """The row with each gap of at least so many empty boxes longer by more; and how far each ball is moved."""
+    # From near the least place on, so that eleven such gaps still end within the bounds.
+    moved, far = {}, -END + 50000000
+    for at, place in enumerate(row):
+        if at and place - row[at - 1] > least:
+            far += more
+        moved[place] = far
+    return tuple(place + far for place, far in moved.items()), moved
+
+
+def blocks_by_signs(row):
+    """The blocks of a near row, a list of (first place, length)."""
+    told, box = [], row[0] if row else 0
+    for sign, signs in itertools.groupby(signs_of(row)):
+        many = len(list(signs))
+        if sign == "o":
+            told.append((box, many))
+        box += many
+    return told
+
+
+def row_of_blocks(blocks):
+    """The row of such blocks."""
+    return tuple(first + ball for first, many in blocks for ball in range(many))
+
+
+def all_rings(most, least=1):
+    """Every ring of least to most boxes."""
+    for many in range(least, most + 1):
+        for balls in range((many + 1) // 2):
+            for places in itertools.combinations(range(many), balls):
+                yield many, places
+
+
+def ring_by_partners(ring):
+    """The ring behind a step: from each ball on, round to where as many empty boxes as balls have been passed."""
+    many, balls = ring
+    partners = []
+    for ball in balls:
+        place, more = ball, 1
+        while more:
+            place = (place + 1) % many
+            more += 1 if place in balls else -1
+        partners.append(place)
+    return many, tuple(sorted(partners))
+
+
 @contextlib.contextmanager
 def soon(seconds=20):
     """Fail, rather than hang, where something goes through all boxes of a far gap."""
@@ -100,6 +184,20 @@ def check_numbers(case, numbers):
     case.assertIs(type(numbers), list)
     for number in numbers:
         case.assertIs(type(number), int)
+
+
+def check_own(case, function, *arguments):
+    """Check that a told list is the asker's own: changed by the asker, the next answer is as it was."""
+    first, second = function(*arguments), function(*arguments)
+    case.assertIs(type(first), list)
+    case.assertIsNot(first, second)
+    wanted = list(second)
+    case.assertEqual(first, wanted)
+    first.insert(0, 99)
+    first.pop()
+    first.append("more")
+    case.assertEqual(second, wanted)
+    case.assertEqual(function(*arguments), wanted)
 
 
 def check_refused(case, wanted, function, *arguments):

@@ -5,6 +5,8 @@ import unittest
 
 from boxballs.carriers import carried_by, taken_by, undone_by
 from boxballs.errors import BadNote, BallError, NoNumber, NoRow, NotFree, TooLong
+from boxballs.free import blocks, free_later, meeting, steps_to_free
+from boxballs.rings import rounds
 from boxballs.rows import later
 
 KINDS = [NoNumber, NotFree, TooLong, NoRow, BadNote]
@@ -39,12 +41,24 @@ class ErrorClasses(unittest.TestCase):
 class Refusals(unittest.TestCase):
 
     def test_refused_with_its_own_class_only(self):
-        others = tuple(kind for kind in KINDS if kind is not NoNumber)
-        for function, wrong in [(later, 61), (carried_by, 13), (undone_by, 0), (taken_by, None)]:
-            with self.assertRaises(BallError) as caught:
-                function((0, 1), wrong)
-            self.assertIs(type(caught.exception), NoNumber)
-            self.assertNotIsInstance(caught.exception, others)
+        for kind, function, *arguments in [
+            (NoNumber, later, (0, 1), 61),
+            (NoNumber, carried_by, (0, 1), 13),
+            (NoNumber, undone_by, (0, 1), 0),
+            (NoNumber, taken_by, (0, 1), None),
+            (NotFree, blocks, (0, 1, 3)),
+            (NotFree, free_later, (0, 1, 3), 1),
+            (NotFree, free_later, (0, 1, 3), None),
+            (NoNumber, free_later, (0, 1), -1),
+            (TooLong, steps_to_free, (0, 1, 63)),
+            (NoNumber, meeting, 2, 2, 5),
+            (NoNumber, rounds, 4, 2),
+        ]:
+            with self.assertRaises(ValueError) as caught:
+                function(*arguments)
+            self.assertIs(type(caught.exception), kind)
+            self.assertIsInstance(caught.exception, BallError)
+            self.assertNotIsInstance(caught.exception, tuple(other for other in KINDS if other is not kind))
 
 
 if __name__ == "__main__":

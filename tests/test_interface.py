@@ -11,6 +11,16 @@ FUNCTIONS = {
     "carriers": {
         "carried_by": ["row", "size"], "undone_by": ["row", "size"], "taken_by": ["row", "size"], "takings": ["row"],
     },
+    "waves": {"lengths": ["row"], "one_making": ["one", "other"], "waves": ["row"]},
+    "pairs": {"pairs": ["row"], "depths": ["row"], "peeled": ["row"]},
+    "free": {
+        "is_free": ["row"], "blocks": ["row"], "free_later": ["row", "steps"], "steps_to_free": ["row"],
+        "meeting": ["longer", "shorter", "gap"],
+    },
+    "rings": {
+        "is_ring": ["thing"], "ring_carried": ["ring"], "ring_undone": ["ring"], "ring_lengths": ["ring"],
+        "round_of": ["ring"], "rounds": ["many", "balls"],
+    },
 }
 ERRORS = ["BallError", "NoNumber", "NotFree", "TooLong", "NoRow", "BadNote"]
 

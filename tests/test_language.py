@@ -1,6 +1,6 @@
 """The rules of ../shared/LANGUAGE.md that can be seen in the code without running it.
 
-These are the plain ones (L1 to L3, L5 to L8, L10, L12, L14, L15, L17, L21, L27); the others are kept by reading.
+These are the plain ones (L1 to L3, L5 to L8, L10, L12, L14 to L17, L21, L22, L25, L27); the others are kept by reading.
 """
 
 import ast
@@ -30,6 +30,14 @@ BARRED_NAMES = set(
     "register mro elements open input version_info with_traceback add_note attrgetter breakpoint builtins compile "
     "copyright credits delattr dir eval exec exit gc getattr globals hasattr help id importlib license locals "
     "methodcaller os quit setattr super vars sys".split())
+
+METHODS = set(
+    "append clear copy count endswith extend find get index insert isalnum isalpha isdigit islower isspace isupper "
+    "items join keys ljust lower lstrip partition pop remove replace reverse rfind rjust rpartition rsplit rstrip "
+    "setdefault split splitlines startswith strip update upper values zfill bit_length".split())
+
+KEYWORDS = {"sorted": {"key", "reverse"}, "min": {"key", "default"}, "max": {"key", "default"},
+            "sum": {"start"}, "enumerate": {"start"}, "zip": {"strict"}}
 
 DOUBLE_UNDERSCORES = {"__init__", "__eq__", "__repr__", "__str__", "__len__"}
 
@@ -73,6 +81,48 @@ class Language(unittest.TestCase):
                     self.assertRegex(node.module, r"^boxballs\.[a-z]", name)
                     self.assertEqual(node.level, 0)
                     self.assertNotIn("*", [alias.name for alias in node.names])
+
+    def test_imports_lead_to_the_file_that_defines_the_name(self):
+        for tree in self.trees.values():
+            for node in tree.body:
+                if isinstance(node, ast.ImportFrom):
+                    there = self.trees[node.module.removeprefix("boxballs.") + ".py"]
+                    defined = [part.name for part in there.body if isinstance(part, (ast.FunctionDef, ast.ClassDef))]
+                    for alias in node.names:
+                        self.assertIn(alias.name, defined)
+
+    def test_imports_never_lead_back(self):
+        after = {name: {node.module.removeprefix("boxballs.") + ".py" for node in tree.body
+                        if isinstance(node, ast.ImportFrom)} for name, tree in self.trees.items()}
+        while after:
+            free = [name for name in after if not after[name] & set(after)]
+            self.assertTrue(free, f"imported in a ring: {sorted(after)}")
+            for name in free:
+                del after[name]
+
+    def test_calls(self):
+        for name, tree in self.trees.items():
+            for node in ast.walk(tree):
+                if isinstance(node, ast.Call):
+                    where = f"{name}:{node.lineno}"
+                    if isinstance(node.func, ast.Attribute):
+                        self.assertIn(node.func.attr, METHODS, where)
+                        self.assertEqual(node.keywords, [], where)
+                    elif node.func.id in BUILTINS:
+                        keywords = {keyword.arg for keyword in node.keywords}
+                        self.assertLessEqual(keywords, KEYWORDS.get(node.func.id, set()), where)
+
+    def test_bound_once_at_module_level(self):
+        for name, tree in self.trees.items():
+            bound = []
+            for node in tree.body:
+                if isinstance(node, ast.ImportFrom):
+                    bound += [alias.asname or alias.name for alias in node.names]
+                elif isinstance(node, ast.Assign):
+                    bound += [target.id for target in node.targets]
+                elif isinstance(node, (ast.FunctionDef, ast.ClassDef)):
+                    bound.append(node.name)
+            self.assertEqual(sorted(bound), sorted(set(bound)), name)
 
     def test_module_level(self):
         allowed = (ast.ImportFrom, ast.FunctionDef, ast.ClassDef, ast.Assign)
