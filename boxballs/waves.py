@@ -20,6 +20,15 @@ def one_making(one, other):
     return lengths(one) == lengths(other)
 
 
+def counted_by_lengths(rows):
+    """How many of these rows have such lengths: a rising list of tuples (lengths, many)."""
+    found = {}
+    for row in rows:
+        told = lengths(row)
+        found[told] = found.get(told, 0) + 1
+    return sorted(found.items())
+
+
 def runs_in(row):
     """The runs from the first ball on, lists of places: balls, empty boxes, balls, and so on by turns."""
     found = blocks_in(row)

@@ -30,6 +30,17 @@ NO_NUMBERS = [
 HUGE = [10 ** 29, 10 ** 30 - 1, -10 ** 29, -(10 ** 30 - 1)]
 
 
+# Things of all kinds that [1] allows, none of them a row, a ring, a motley row, a text that is read or a line.
+THINGS = NO_NUMBERS[:3] + HUGE + [
+    0, 1, -1, 12, "1", "none ", "0:", "o", "show", " kept", "a" * 400, "\n", "\x00", "\ud800", [], [0], [0, 1], [[]],
+    [()], [(0, 1)], [[0, 1]], {}, {0: 1}, {(0, 1): [2, {"a": (3,)}]}, {1: {2: {3: {4: {5: 6}}}}}, (None,), (True,),
+    ("a",), ("ab",), ("12",), ((),), ([],), ({},), (0, None), ((0,), 1), (((((0,),),),),), [[[[[0]]]]],
+    ([0, 1], [2, 3]), ((0, 1), 5), (5, (0, 1), 2), ((0, 1), None), ((0, 1), [2, 1]), ((0, "1"),), (("0", 1),),
+    ((None, None),), tuple([None] * 399), tuple([[]] * 399), list(range(399)), ["kept"], ("kept",), {"kept": 1},
+    [None, True, "a", 9],
+]
+
+
 def small_rows(boxes=9):
     """Every row in so many boxes, some of them below 0."""
     places = range(-4, boxes - 4)
@@ -135,6 +146,14 @@ def row_of_blocks(blocks):
     return tuple(first + ball for first, many in blocks for ball in range(many))
 
 
+def rising_sizes(most, least=1):
+    """Every tuple of one or more lengths that never fall, from least on, at most so many balls together."""
+    for size in range(least, most + 1):
+        yield (size,)
+        for more in rising_sizes(most - size, size):
+            yield (size,) + more
+
+
 def all_rings(most, least=1):
     """Every ring of least to most boxes."""
     for many in range(least, most + 1):
@@ -196,6 +215,7 @@ def check_own(case, function, *arguments):
     first.insert(0, 99)
     first.pop()
     first.append("more")
+    first.reverse()
     case.assertEqual(second, wanted)
     case.assertEqual(function(*arguments), wanted)
 

@@ -4,8 +4,12 @@ import itertools
 import unittest
 
 from boxballs.carriers import carried_by, taken_by, undone_by
+from boxballs.desk import Desk
 from boxballs.errors import BadNote, BallError, NoNumber, NoRow, NotFree, TooLong
 from boxballs.free import blocks, free_later, meeting, steps_to_free
+from boxballs.made import all_rows, by_lengths, free_row
+from boxballs.motley import kind_carried
+from boxballs.notes import row_read
 from boxballs.rings import rounds
 from boxballs.rows import later
 
@@ -41,6 +45,8 @@ class ErrorClasses(unittest.TestCase):
 class Refusals(unittest.TestCase):
 
     def test_refused_with_its_own_class_only(self):
+        desk = Desk()
+        desk.say("row a 0:oo" + "." * 61 + "o")
         for kind, function, *arguments in [
             (NoNumber, later, (0, 1), 61),
             (NoNumber, carried_by, (0, 1), 13),
@@ -53,6 +59,21 @@ class Refusals(unittest.TestCase):
             (TooLong, steps_to_free, (0, 1, 63)),
             (NoNumber, meeting, 2, 2, 5),
             (NoNumber, rounds, 4, 2),
+            (NoNumber, kind_carried, ((0, 1),), 4),
+            (NoNumber, free_row, (2, 1), (2,)),
+            (NoNumber, free_row, None, ()),
+            (NoNumber, all_rows, 11, 1),
+            (NoNumber, by_lengths, 3, 4),
+            (BadNote, row_read, "0:o."),
+            (BadNote, row_read, None),
+            (BadNote, desk.say, "show"),
+            (BadNote, desk.say, None),
+            (BadNote, desk.say, "later x 01 n"),
+            (NoRow, desk.say, "show x"),
+            (NoRow, desk.say, "later x 61 n"),
+            (NoNumber, desk.say, "later a 61 n"),
+            (NoNumber, desk.say, "small a 0 n"),
+            (TooLong, desk.say, "free a"),
         ]:
             with self.assertRaises(ValueError) as caught:
                 function(*arguments)

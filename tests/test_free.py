@@ -8,7 +8,7 @@ from boxballs.free import blocks, free_later, is_free, meeting, steps_to_free
 from boxballs.rows import carried, is_row, later
 from tests.helper import (
     END, FAR_ROWS, HUGE, NO_NUMBERS, blocks_by_signs, check_refused, check_row, counts_by_gaps,
-    lengths_by_counts, mixed_rows, near_rows, row_of_blocks, soon,
+    lengths_by_counts, near_rows, rising_sizes, row_of_blocks, soon,
 )
 
 # No free rows because no rows at all.
@@ -26,14 +26,6 @@ def free_by_signs(row):
         if following < many or start - (first + many) < many:
             return False
     return True
-
-
-def rising_sizes(most):
-    """Every tuple of lengths that never fall, at most so many balls together."""
-    for many in range(1, most + 1):
-        for sizes in itertools.combinations_with_replacement(range(1, most + 1), many):
-            if sum(sizes) <= most:
-                yield sizes
 
 
 def blocks_with_gaps(sizes, extra, start=0):

@@ -21,6 +21,14 @@ FUNCTIONS = {
         "is_ring": ["thing"], "ring_carried": ["ring"], "ring_undone": ["ring"], "ring_lengths": ["ring"],
         "round_of": ["ring"], "rounds": ["many", "balls"],
     },
+    "motley": {
+        "is_motley": ["thing"], "kind_carried": ["motley", "kind"], "motley_carried": ["motley"],
+        "motley_undone": ["motley"], "staying": ["motley"],
+    },
+    "made": {
+        "free_row": ["lengths", "gaps"], "all_rows": ["boxes", "balls"], "by_lengths": ["boxes", "balls"],
+    },
+    "notes": {"row_text": ["row"], "row_read": ["text"]},
 }
 ERRORS = ["BallError", "NoNumber", "NotFree", "TooLong", "NoRow", "BadNote"]
 
@@ -34,6 +42,13 @@ class Interface(unittest.TestCase):
                 function = getattr(module, name)
                 self.assertEqual(function.__module__, module.__name__)
                 self.assertEqual(list(inspect.signature(function).parameters), arguments)
+
+    def test_desk(self):
+        module = importlib.import_module("boxballs.desk")
+        self.assertTrue(inspect.isclass(module.Desk))
+        self.assertEqual(module.Desk.__module__, "boxballs.desk")
+        self.assertEqual(list(inspect.signature(module.Desk).parameters), [])
+        self.assertEqual(list(inspect.signature(module.Desk().say).parameters), ["line"])
 
     def test_errors(self):
         module = importlib.import_module("boxballs.errors")

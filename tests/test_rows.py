@@ -88,7 +88,8 @@ class IsRow(unittest.TestCase):
     def test_nested_things(self):
         for thing in [((),), ((0, 1),), (((((0,),),),),), [[[[[0]]]]], {1: {2: {3: {4: {5: 6}}}}},
                       (0, (1,)), ((0,), 1), ([],), ({},), [()], [(0, 1)], {(): ()}, {(0, 1): [2, {"a": (3,)}]},
-                      ("a" * 400,), tuple([None] * 12), tuple([[]] * 399), list(range(399)), (0, 1, (2, [3, {4: "5"}]))]:
+                      ("a" * 400,), tuple([None] * 12), tuple([[]] * 399), list(range(399)),
+                      (0, 1, (2, [3, {4: "5"}]))]:
             self.check(thing, False)
 
     def test_a_thing_changed_later(self):
